@@ -20,11 +20,12 @@ func answers(list ...any) []any { return list }
 func manyTexts() []string {
 	texts := append(allMembers(), oddTexts()...)
 	texts = append(texts, codeWords()...)
+	texts = append(texts, escapeTexts()...)
 	for _, name := range []string{"script", "onclick", "href", "math", "_a9"} {
 		texts = append(texts, nearNames(name)...)
 	}
 	for _, n := range []int{impl.MaxName, impl.MaxName + 1, impl.MaxText, impl.MaxText + 1} {
-		for _, p := range []string{"a", "A", "\x00", "\xff", " ", "\n"} {
+		for _, p := range []string{"a", "A", "\x00", "\xff", " ", "\n", "&", "<", ">", "-"} {
 			texts = append(texts, strings.Repeat(p, n))
 		}
 	}
@@ -47,6 +48,11 @@ func manyCalls(texts []string) []call {
 			func() []any { return answers(impl.IsLink(s)) },
 			func() []any { return answers(impl.BadLink(s)) },
 			func() []any { return answers(impl.SpaceOf(s)) },
+			func() []any { return answers(impl.EscapeText(s)) },
+			func() []any { return answers(impl.EscapeValue(s)) },
+			func() []any { return answers(impl.Unescape(s)) },
+			func() []any { return answers(impl.HasMarkup(s)) },
+			func() []any { return answers(impl.CommentOK(s)) },
 		)
 	}
 	for _, code := range []int{math.MinInt, -1, 0, 1, 9, 17, 18, 19, 1 << 40, math.MaxInt} {
