@@ -1,9 +1,11 @@
 package tests
 
 import (
+	"fmt"
 	"math"
 	"math/rand"
 	"reflect"
+	"slices"
 	"strings"
 	"sync"
 	"testing"
@@ -61,6 +63,38 @@ func manyCalls(texts []string) []call {
 	return calls
 }
 
+// manyTrees have room behind their lists' ends.
+func manyTrees() [][]impl.Node {
+	var trees [][]impl.Node
+	for _, x := range slices.Concat(rightTrees(), grownTrees(100), wrongTrees(), longTrees()) {
+		trees = append(trees, withRoom(x))
+	}
+	return trees
+}
+
+func manyPaths() [][]int {
+	return append(oddPaths(), []int{0}, []int{1}, []int{0, 0}, []int{0, 1, 0}, []int{2, 0, 0}, make([]int, impl.MaxList+1))
+}
+
+func manyTreeCalls(trees [][]impl.Node, paths [][]int) []call {
+	var calls []call
+	for i, x := range trees {
+		calls = append(calls,
+			func() []any { return answers(impl.TreeOK(x)) },
+			func() []any { return answers(impl.SameTree(x, trees[i/2])) },
+			func() []any { return answers(impl.CountOf(x)) },
+			func() []any { return answers(impl.DepthOf(x)) },
+			func() []any { return answers(impl.TextOf(x)) },
+			func() []any { return answers(impl.MergeText(x)) },
+			func() []any { return answers(impl.NamesIn(x)) },
+		)
+		for _, path := range paths {
+			calls = append(calls, func() []any { return answers(impl.NodeAt(x, path)) })
+		}
+	}
+	return calls
+}
+
 // TestAnswersHangOnArgumentsAlone fails, too, if a call panics.
 func TestAnswersHangOnArgumentsAlone(t *testing.T) {
 	texts := manyTexts()
@@ -68,7 +102,43 @@ func TestAnswersHangOnArgumentsAlone(t *testing.T) {
 	for i, s := range texts {
 		before[i] = strings.Clone(s)
 	}
-	calls := manyCalls(texts)
+	checkCallsStay(t, manyCalls(texts))
+	if !reflect.DeepEqual(texts, before) {
+		t.Error("a call changed an argument")
+	}
+}
+
+func TestAnswersOfTreesHangOnArgumentsAlone(t *testing.T) {
+	trees, paths := manyTrees(), manyPaths()
+	before, pathsBefore := shown(trees), fmt.Sprint(paths)
+	checkCallsStay(t, manyTreeCalls(trees, paths))
+	if !slices.Equal(shown(trees), before) || fmt.Sprint(paths) != pathsBefore {
+		t.Error("a call changed an argument")
+	}
+}
+
+// shown tells what stands behind the ends of the lists, too.
+func shown(trees [][]impl.Node) []string {
+	var wholes []string
+	for _, x := range trees {
+		wholes = append(wholes, show(whole(x)))
+	}
+	return wholes
+}
+
+func whole(nodes []impl.Node) []impl.Node {
+	var out []impl.Node
+	for _, x := range nodes[:cap(nodes)] {
+		x.Attrs = x.Attrs[:cap(x.Attrs)]
+		x.Kids = whole(x.Kids)
+		out = append(out, x)
+	}
+	return out
+}
+
+// checkCallsStay makes the calls again, backwards, and then in four orders at once.
+func checkCallsStay(t *testing.T, calls []call) {
+	t.Helper()
 	first := make([][]any, len(calls))
 	for i, c := range calls {
 		first[i] = c()
@@ -90,9 +160,6 @@ func TestAnswersHangOnArgumentsAlone(t *testing.T) {
 		})
 	}
 	workers.Wait()
-	if !reflect.DeepEqual(texts, before) {
-		t.Error("a call changed an argument")
-	}
 }
 
 // TestAlikeTextsOfOtherMemory holds texts against copies of them and against parts of longer ones.
@@ -106,6 +173,21 @@ func TestAlikeTextsOfOtherMemory(t *testing.T) {
 	for i := range calls {
 		if got, want := again[i](), calls[i](); !reflect.DeepEqual(got, want) {
 			t.Errorf("call %d of an alike argument answers %.60q, want %.60q", i, got, want)
+		}
+	}
+}
+
+// TestAlikeTreesOfOtherMemory holds trees with empty lists, and with room, against ones without.
+func TestAlikeTreesOfOtherMemory(t *testing.T) {
+	trees, paths := manyTrees(), manyPaths()
+	copies := make([][]impl.Node, len(trees))
+	for i, x := range trees {
+		copies[i] = copied(x)
+	}
+	calls, again := manyTreeCalls(trees, paths), manyTreeCalls(copies, paths)
+	for i := range calls {
+		if got, want := again[i](), calls[i](); !reflect.DeepEqual(got, want) {
+			t.Errorf("call %d of an alike tree answers %.60q, want %.60q", i, got, want)
 		}
 	}
 }
