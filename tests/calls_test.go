@@ -23,6 +23,7 @@ func manyTexts() []string {
 	texts := append(allMembers(), oddTexts()...)
 	texts = append(texts, codeWords()...)
 	texts = append(texts, escapeTexts()...)
+	texts = append(texts, tokenTexts()...)
 	for _, name := range []string{"script", "onclick", "href", "math", "_a9"} {
 		texts = append(texts, nearNames(name)...)
 	}
@@ -55,7 +56,14 @@ func manyCalls(texts []string) []call {
 			func() []any { return answers(impl.Unescape(s)) },
 			func() []any { return answers(impl.HasMarkup(s)) },
 			func() []any { return answers(impl.CommentOK(s)) },
+			func() []any { return answers(impl.TokensOf(s)) },
+			func() []any { return answers(impl.NextToken("<a>"+s, 3, s)) },
 		)
+		for _, raw := range []string{"", "style", "xmp", "x y"} {
+			for _, at := range []int{math.MinInt, -1, 0, 1, len(s) / 2, len(s) - 1, len(s), math.MaxInt} {
+				calls = append(calls, func() []any { return answers(impl.NextToken(s, at, raw)) })
+			}
+		}
 	}
 	for _, code := range []int{math.MinInt, -1, 0, 1, 9, 17, 18, 19, 1 << 40, math.MaxInt} {
 		calls = append(calls, func() []any { return answers(impl.CodeWord(code)) })
