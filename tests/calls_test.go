@@ -24,6 +24,7 @@ func manyTexts() []string {
 	texts = append(texts, codeWords()...)
 	texts = append(texts, escapeTexts()...)
 	texts = append(texts, tokenTexts()...)
+	texts = append(texts, treeTexts()...)
 	for _, name := range []string{"script", "onclick", "href", "math", "_a9"} {
 		texts = append(texts, nearNames(name)...)
 	}
@@ -58,6 +59,11 @@ func manyCalls(texts []string) []call {
 			func() []any { return answers(impl.CommentOK(s)) },
 			func() []any { return answers(impl.TokensOf(s)) },
 			func() []any { return answers(impl.NextToken("<a>"+s, 3, s)) },
+			func() []any { return answers(impl.Build(s)) },
+			func() []any { return answers(impl.BuildIn(s, "div")) },
+			func() []any { return answers(impl.BuildIn(s, "style")) },
+			func() []any { return answers(impl.BuildIn(s, "br")) },
+			func() []any { return answers(impl.BuildIn("<b>x", s)) },
 		)
 		for _, raw := range []string{"", "style", "xmp", "x y"} {
 			for _, at := range []int{math.MinInt, -1, 0, 1, len(s) / 2, len(s) - 1, len(s), math.MaxInt} {
@@ -103,6 +109,36 @@ func manyTreeCalls(trees [][]impl.Node, paths [][]int) []call {
 	return calls
 }
 
+// manyStacks are right and wrong ones, with room behind their ends.
+func manyStacks() [][]impl.Open {
+	var stacks [][]impl.Open
+	for _, names := range []string{"", "p", "li", "b i b", "ul li p", "p svg/svg svg/g", "svg/svg math/math", "li svg/p", "svg/svg p math/li", "style", "br svg/br"} {
+		stacks = append(stacks, open(names), append(open(names), wrongOpens()[len(stacks)]))
+	}
+	for _, n := range []int{impl.MaxList, impl.MaxList + 1} {
+		stacks = append(stacks, slices.Repeat(open("svg/g"), n))
+	}
+	for i, stack := range stacks {
+		stacks[i] = append(append(make([]impl.Open, 0, len(stack)+2), stack...), impl.Open{Name: "behind"})[:len(stack)]
+	}
+	return stacks
+}
+
+func manyStackCalls(stacks [][]impl.Open) []call {
+	var calls []call
+	names := []string{"p", "div", "b", "br", "li", "a", "i", "g", "svg", "math", "style", "", "P", "p\xff", strings.Repeat("p", impl.MaxText+1)}
+	for _, stack := range stacks {
+		for _, name := range names {
+			calls = append(calls,
+				func() []any { return answers(impl.Implied(stack, name)) },
+				func() []any { return answers(impl.PlaceOf(stack, name)) },
+				func() []any { return answers(impl.CloseAt(stack, name)) },
+			)
+		}
+	}
+	return calls
+}
+
 // TestAnswersHangOnArgumentsAlone fails, too, if a call panics.
 func TestAnswersHangOnArgumentsAlone(t *testing.T) {
 	texts := manyTexts()
@@ -122,6 +158,28 @@ func TestAnswersOfTreesHangOnArgumentsAlone(t *testing.T) {
 	checkCallsStay(t, manyTreeCalls(trees, paths))
 	if !slices.Equal(shown(trees), before) || fmt.Sprint(paths) != pathsBefore {
 		t.Error("a call changed an argument")
+	}
+}
+
+// TestAnswersOfStacksHangOnArgumentsAlone holds them against answers of copies, too.
+func TestAnswersOfStacksHangOnArgumentsAlone(t *testing.T) {
+	stacks := manyStacks()
+	var copies, before [][]impl.Open
+	for _, stack := range stacks {
+		copies = append(copies, slices.Clip(slices.Clone(stack)))
+		before = append(before, slices.Clone(stack[:cap(stack)]))
+	}
+	calls, again := manyStackCalls(stacks), manyStackCalls(copies)
+	checkCallsStay(t, calls)
+	for i := range calls {
+		if got, want := again[i](), calls[i](); !reflect.DeepEqual(got, want) {
+			t.Errorf("call %d of an alike stack answers %v, want %v", i, got, want)
+		}
+	}
+	for i, stack := range stacks {
+		if !slices.Equal(stack[:cap(stack)], before[i]) {
+			t.Errorf("a call changed stack %d", i)
+		}
 	}
 }
 
