@@ -80,7 +80,7 @@ func manyCalls(texts []string) []call {
 // manyTrees have room behind their lists' ends.
 func manyTrees() [][]impl.Node {
 	var trees [][]impl.Node
-	for _, x := range slices.Concat(rightTrees(), grownTrees(100), wrongTrees(), longTrees()) {
+	for _, x := range slices.Concat(rightTrees(), grownTrees(100), brokenTrees(100), wrongTrees(), longTrees()) {
 		trees = append(trees, withRoom(x))
 	}
 	return trees
@@ -101,7 +101,16 @@ func manyTreeCalls(trees [][]impl.Node, paths [][]int) []call {
 			func() []any { return answers(impl.TextOf(x)) },
 			func() []any { return answers(impl.MergeText(x)) },
 			func() []any { return answers(impl.NamesIn(x)) },
+			func() []any { return answers(impl.Serialize(x)) },
+			func() []any { return answers(impl.Reparse(x)) },
+			func() []any { return answers(impl.Stable(x)) },
 		)
+		for _, k := range []int{math.MinInt, -1, 0, 1, 2, impl.MaxDepth, impl.MaxDepth + 1, math.MaxInt} {
+			calls = append(calls, func() []any { return answers(impl.ReparseTimes(x, k)) })
+		}
+		for _, node := range x[:min(len(x), 2)] {
+			calls = append(calls, func() []any { return answers(impl.StartTag(node)) })
+		}
 		for _, path := range paths {
 			calls = append(calls, func() []any { return answers(impl.NodeAt(x, path)) })
 		}
