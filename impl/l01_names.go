@@ -116,3 +116,7 @@ func SpaceOf(name string) int {
 	}
 	return SpHtml
 }
+
+func isSpace(space int) bool {
+	return SpHtml <= space && space <= SpMath
+}

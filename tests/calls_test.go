@@ -148,6 +148,56 @@ func manyStackCalls(stacks [][]impl.Open) []call {
 	return calls
 }
 
+// manyConfigs are right and wrong ones, with room behind their lists' ends.
+func manyConfigs() []impl.Config {
+	list := append(rightConfigs(), anyConfigs(40)...)
+	for told := range contradictions() {
+		list = append(list, config(told))
+	}
+	for i, c := range badConfigs() {
+		if i%20 == 0 {
+			list = append(list, c)
+		}
+	}
+	for i, c := range list {
+		list[i] = configWithRoom(c)
+	}
+	return list
+}
+
+// configArgs are elements and attributes, right and wrong ones.
+func configArgs() ([]impl.Open, []impl.Attr) {
+	elements := append(open("p svg/p a math/b script svg/use style abcdefghijkl"), wrongOpens()[:12]...)
+	attrs := []impl.Attr{{Name: "id", Value: "x"}, {Name: "href", Value: "JavaScript:x"}, {Name: "src", Value: "\xff"}, {Name: "onclick"}, {Name: "data-x"}, {Name: "title"}}
+	return elements, append(attrs, wrongAttrs()[:8]...)
+}
+
+func manyConfigCalls(configs []impl.Config) []call {
+	elements, attrs := configArgs()
+	calls := []call{func() []any { return answers(impl.DefaultConfig()) }}
+	for i, c := range configs {
+		calls = append(calls,
+			func() []any { return answers(impl.CheckConfig(c)) },
+			func() []any { return answers(impl.Canonical(c)) },
+			func() []any { return answers(impl.SameConfig(c, configs[i/2])) },
+			func() []any { return answers(impl.SameConfig(configs[i], c)) },
+		)
+		for _, r := range slices.Concat(c.Allow, c.Remove, c.Unwrap) {
+			calls = append(calls, func() []any { return answers(impl.RuleOK(r)) })
+		}
+		for _, e := range elements {
+			calls = append(calls,
+				func() []any { return answers(impl.Unwraps(c, e.Space, e.Name)) },
+				func() []any { return answers(impl.AllowsElement(c, e.Space, e.Name)) },
+			)
+			for _, a := range attrs {
+				calls = append(calls, func() []any { return answers(impl.AllowsAttr(c, e.Space, e.Name, a)) })
+			}
+		}
+	}
+	return calls
+}
+
 // TestAnswersHangOnArgumentsAlone fails, too, if a call panics.
 func TestAnswersHangOnArgumentsAlone(t *testing.T) {
 	texts := manyTexts()
@@ -188,6 +238,28 @@ func TestAnswersOfStacksHangOnArgumentsAlone(t *testing.T) {
 	for i, stack := range stacks {
 		if !slices.Equal(stack[:cap(stack)], before[i]) {
 			t.Errorf("a call changed stack %d", i)
+		}
+	}
+}
+
+// TestAnswersOfConfigsHangOnArgumentsAlone holds them against answers of copies, too, which have nil in the place of empty lists.
+func TestAnswersOfConfigsHangOnArgumentsAlone(t *testing.T) {
+	configs := manyConfigs()
+	var copies, before []impl.Config
+	for _, c := range configs {
+		copies = append(copies, copiedConfig(c))
+		before = append(before, wholeConfig(c))
+	}
+	calls, again := manyConfigCalls(configs), manyConfigCalls(copies)
+	checkCallsStay(t, calls)
+	for i := range calls {
+		if got, want := again[i](), calls[i](); !reflect.DeepEqual(got, want) {
+			t.Errorf("call %d of an alike configuration answers %v, want %v", i, got, want)
+		}
+	}
+	for i, c := range configs {
+		if !reflect.DeepEqual(wholeConfig(c), before[i]) {
+			t.Errorf("a call changed configuration %d", i)
 		}
 	}
 }
