@@ -198,6 +198,34 @@ func manyConfigCalls(configs []impl.Config) []call {
 	return calls
 }
 
+// manySanitizeCalls take each tree and each text by some of the configurations, right and wrong ones.
+func manySanitizeCalls(trees [][]impl.Node, texts []string, configs []impl.Config) []call {
+	var calls []call
+	some := func(i int) []impl.Config {
+		return []impl.Config{configs[i%len(configs)], configs[(i*7+i/len(configs))%len(configs)], impl.DefaultConfig()}
+	}
+	for i, x := range trees {
+		calls = append(calls,
+			func() []any { return answers(impl.Harmless(x)) },
+			func() []any { return answers(impl.Clean(x)) },
+			func() []any { return answers(impl.FirstHarm(x)) },
+		)
+		for _, c := range some(i) {
+			calls = append(calls,
+				func() []any { return answers(impl.Sanitize(x, c)) },
+				func() []any { return answers(impl.Permitted(x, c)) },
+				func() []any { return answers(impl.Removed(x, c)) },
+			)
+		}
+	}
+	for i, s := range texts {
+		for _, c := range some(i) {
+			calls = append(calls, func() []any { return answers(impl.SanitizeText(s, c)) })
+		}
+	}
+	return calls
+}
+
 // TestAnswersHangOnArgumentsAlone fails, too, if a call panics.
 func TestAnswersHangOnArgumentsAlone(t *testing.T) {
 	texts := manyTexts()
@@ -256,6 +284,39 @@ func TestAnswersOfConfigsHangOnArgumentsAlone(t *testing.T) {
 		if got, want := again[i](), calls[i](); !reflect.DeepEqual(got, want) {
 			t.Errorf("call %d of an alike configuration answers %v, want %v", i, got, want)
 		}
+	}
+	for i, c := range configs {
+		if !reflect.DeepEqual(wholeConfig(c), before[i]) {
+			t.Errorf("a call changed configuration %d", i)
+		}
+	}
+}
+
+// TestAnswersOfSanitizingHangOnArgumentsAlone holds them against answers of copies, too, which have nil in the place of empty lists.
+func TestAnswersOfSanitizingHangOnArgumentsAlone(t *testing.T) {
+	trees, configs, texts := manyTrees(), manyConfigs(), append(manyTexts(), harmTexts()...)
+	for _, x := range append(dressedTrees(200), mutantTrees(200)...) {
+		trees = append(trees, withRoom(x))
+	}
+	var treeCopies [][]impl.Node
+	for _, x := range trees {
+		treeCopies = append(treeCopies, copied(x))
+	}
+	var copies, before []impl.Config
+	for _, c := range configs {
+		copies = append(copies, copiedConfig(c))
+		before = append(before, wholeConfig(c))
+	}
+	treesBefore := shown(trees)
+	calls, again := manySanitizeCalls(trees, texts, configs), manySanitizeCalls(treeCopies, texts, copies)
+	checkCallsStay(t, calls)
+	for i := range calls {
+		if got, want := again[i](), calls[i](); !reflect.DeepEqual(got, want) {
+			t.Errorf("call %d of an alike argument answers %.60q, want %.60q", i, got, want)
+		}
+	}
+	if !slices.Equal(shown(trees), treesBefore) {
+		t.Error("a call changed a tree")
 	}
 	for i, c := range configs {
 		if !reflect.DeepEqual(wholeConfig(c), before[i]) {

@@ -288,8 +288,11 @@ func decidedBy(c impl.Config, space int, name string, attrs []impl.Attr) decisio
 	return d
 }
 
+func harmfulBy(a impl.Attr) bool {
+	return handlerForm.MatchString(a.Name) || among("href src action formaction xlink-href", a.Name) && isBadLink(a.Value)
+}
+
 func attrStaysBy(c impl.Config, element string, a impl.Attr) bool {
-	harm := handlerForm.MatchString(a.Name) || among("href src action formaction xlink-href", a.Name) && isBadLink(a.Value)
 	var named []string
 	for _, r := range c.Allow {
 		if elementOf(r.Space, r.Name) == element {
@@ -298,7 +301,7 @@ func attrStaysBy(c impl.Config, element string, a impl.Attr) bool {
 	}
 	named = slices.Concat(named, c.Attrs)
 	dataName := c.Data && len(a.Name) > 5 && a.Name[:5] == "data-"
-	return !harm && !slices.Contains(c.Drop, a.Name) && (!c.HasAttrs || dataName || slices.Contains(named, a.Name))
+	return !harmfulBy(a) && !slices.Contains(c.Drop, a.Name) && (!c.HasAttrs || dataName || slices.Contains(named, a.Name))
 }
 
 // rightConfigs have no code.

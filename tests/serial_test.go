@@ -309,10 +309,6 @@ func TestTextsOfSmallTrees(t *testing.T) {
 			kinds = append(kinds, inSpace(space, name))
 		}
 	}
-	holding := func(x impl.Node, kids ...impl.Node) impl.Node {
-		x.Kids = kids
-		return x
-	}
 	check := func(nodes ...impl.Node) {
 		t.Helper()
 		if impl.TreeOK(nodes) {

@@ -29,6 +29,11 @@ func withAttrs(x impl.Node, pairs ...string) impl.Node {
 	return x
 }
 
+func holding(x impl.Node, kids ...impl.Node) impl.Node {
+	x.Kids = kids
+	return x
+}
+
 func tree(nodes ...impl.Node) []impl.Node { return nodes }
 
 // nested are n elements within one another, around the kids.
