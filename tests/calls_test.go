@@ -226,6 +226,37 @@ func manySanitizeCalls(trees [][]impl.Node, texts []string, configs []impl.Confi
 	return calls
 }
 
+// manyEdits are right and wrong ones, with room behind their lists' ends.
+func manyEdits() []edit {
+	var edits []edit
+	for _, path := range manyPaths() {
+		edits = append(edits, editsAt(path...)...)
+		edits = append(edits, inserting(wrongNodes()[len(path)%20], path...), settingKids(longTrees()[0], path...), settingAttr("A", "", path...), droppingAttr("\xff", path...), settingWords("", path...), settingKids(nil, path...))
+	}
+	for i, nodes := range slices.Concat(grownTrees(60), dressedTrees(60)) {
+		g := newGrower(int64(i), 0)
+		for range 4 {
+			edits = append(edits, g.anyEdit(nodes))
+		}
+	}
+	for i, e := range edits {
+		edits[i] = e.withRoom()
+	}
+	return edits
+}
+
+// manyEditCalls take each tree with some of the edits.
+func manyEditCalls(trees [][]impl.Node, edits []edit) []call {
+	var calls []call
+	for i, nodes := range trees {
+		for k := range 12 {
+			e := edits[(i*12+k)%len(edits)]
+			calls = append(calls, func() []any { return answers(e.of(nodes)) })
+		}
+	}
+	return calls
+}
+
 // TestAnswersHangOnArgumentsAlone fails, too, if a call panics.
 func TestAnswersHangOnArgumentsAlone(t *testing.T) {
 	texts := manyTexts()
@@ -258,11 +289,7 @@ func TestAnswersOfStacksHangOnArgumentsAlone(t *testing.T) {
 	}
 	calls, again := manyStackCalls(stacks), manyStackCalls(copies)
 	checkCallsStay(t, calls)
-	for i := range calls {
-		if got, want := again[i](), calls[i](); !reflect.DeepEqual(got, want) {
-			t.Errorf("call %d of an alike stack answers %v, want %v", i, got, want)
-		}
-	}
+	checkAlike(t, calls, again)
 	for i, stack := range stacks {
 		if !slices.Equal(stack[:cap(stack)], before[i]) {
 			t.Errorf("a call changed stack %d", i)
@@ -280,11 +307,7 @@ func TestAnswersOfConfigsHangOnArgumentsAlone(t *testing.T) {
 	}
 	calls, again := manyConfigCalls(configs), manyConfigCalls(copies)
 	checkCallsStay(t, calls)
-	for i := range calls {
-		if got, want := again[i](), calls[i](); !reflect.DeepEqual(got, want) {
-			t.Errorf("call %d of an alike configuration answers %v, want %v", i, got, want)
-		}
-	}
+	checkAlike(t, calls, again)
 	for i, c := range configs {
 		if !reflect.DeepEqual(wholeConfig(c), before[i]) {
 			t.Errorf("a call changed configuration %d", i)
@@ -310,17 +333,43 @@ func TestAnswersOfSanitizingHangOnArgumentsAlone(t *testing.T) {
 	treesBefore := shown(trees)
 	calls, again := manySanitizeCalls(trees, texts, configs), manySanitizeCalls(treeCopies, texts, copies)
 	checkCallsStay(t, calls)
-	for i := range calls {
-		if got, want := again[i](), calls[i](); !reflect.DeepEqual(got, want) {
-			t.Errorf("call %d of an alike argument answers %.60q, want %.60q", i, got, want)
-		}
-	}
+	checkAlike(t, calls, again)
 	if !slices.Equal(shown(trees), treesBefore) {
 		t.Error("a call changed a tree")
 	}
 	for i, c := range configs {
 		if !reflect.DeepEqual(wholeConfig(c), before[i]) {
 			t.Errorf("a call changed configuration %d", i)
+		}
+	}
+}
+
+// TestAnswersOfEditsHangOnArgumentsAlone holds them against answers of copies, too, which have nil in the place of empty lists.
+func TestAnswersOfEditsHangOnArgumentsAlone(t *testing.T) {
+	trees, edits := manyTrees(), manyEdits()
+	for _, nodes := range slices.Concat(dressedTrees(200), withSixAttrs(grownTrees(60))) {
+		trees = append(trees, withRoom(nodes))
+	}
+	var copies [][]impl.Node
+	for _, nodes := range trees {
+		copies = append(copies, copied(nodes))
+	}
+	var editCopies []edit
+	var editsBefore []string
+	for _, e := range edits {
+		editCopies = append(editCopies, edit{e.call, clipped(e.path), copied(tree(e.x))[0], e.a, e.text, copied(e.kids)})
+		editsBefore = append(editsBefore, e.shown())
+	}
+	treesBefore := shown(trees)
+	calls, again := manyEditCalls(trees, edits), manyEditCalls(copies, editCopies)
+	checkCallsStay(t, calls)
+	checkAlike(t, calls, again)
+	if !slices.Equal(shown(trees), treesBefore) {
+		t.Error("a call changed a tree")
+	}
+	for i, e := range edits {
+		if e.shown() != editsBefore[i] {
+			t.Errorf("a call changed what edit %d is given", i)
 		}
 	}
 }
@@ -370,6 +419,16 @@ func checkCallsStay(t *testing.T, calls []call) {
 	workers.Wait()
 }
 
+// checkAlike takes the same calls twice, with arguments that are alike.
+func checkAlike(t *testing.T, calls, again []call) {
+	t.Helper()
+	for i := range calls {
+		if got, want := again[i](), calls[i](); !reflect.DeepEqual(got, want) {
+			t.Errorf("call %d of alike arguments answers %.60q, want %.60q", i, got, want)
+		}
+	}
+}
+
 // TestAlikeTextsOfOtherMemory holds texts against copies of them and against parts of longer ones.
 func TestAlikeTextsOfOtherMemory(t *testing.T) {
 	texts := manyTexts()
@@ -378,11 +437,7 @@ func TestAlikeTextsOfOtherMemory(t *testing.T) {
 		copies[i] = ("javascript:" + s + "onclick")[len("javascript:"):][:len(s)]
 	}
 	calls, again := manyCalls(texts), manyCalls(copies)
-	for i := range calls {
-		if got, want := again[i](), calls[i](); !reflect.DeepEqual(got, want) {
-			t.Errorf("call %d of an alike argument answers %.60q, want %.60q", i, got, want)
-		}
-	}
+	checkAlike(t, calls, again)
 }
 
 // TestAlikeTreesOfOtherMemory holds trees with empty lists, and with room, against ones without.
@@ -393,9 +448,5 @@ func TestAlikeTreesOfOtherMemory(t *testing.T) {
 		copies[i] = copied(x)
 	}
 	calls, again := manyTreeCalls(trees, paths), manyTreeCalls(copies, paths)
-	for i := range calls {
-		if got, want := again[i](), calls[i](); !reflect.DeepEqual(got, want) {
-			t.Errorf("call %d of an alike tree answers %.60q, want %.60q", i, got, want)
-		}
-	}
+	checkAlike(t, calls, again)
 }
