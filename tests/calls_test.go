@@ -257,6 +257,74 @@ func manyEditCalls(trees [][]impl.Node, edits []edit) []call {
 	return calls
 }
 
+// manyHouses are right and wrong ones, with room behind their lists' ends.
+func manyHouses() []impl.House {
+	houses := append(differing(), furnished(), housing(), impl.House{Docs: docsNamed("p p p p p p")}, impl.House{Docs: docsNamed("p p p p p p p")}, impl.House{Configs: make([]impl.Config, 5)}, housing(doc("P")), housing(doc("br", words("x"))), housing(doc("style", comment("x"))))
+	for i, nodes := range slices.Concat(rightTrees()[:40], grownTrees(40), brokenTrees(40), wrongTrees(), longTrees()) {
+		houses = append(houses, impl.House{Docs: []impl.Doc{doc("p"), doc("div", nodes...), doc("style", words("<"))}, Configs: fourConfigs(i)})
+	}
+	for _, c := range manyConfigs() {
+		houses = append(houses, impl.House{Docs: docsNamed("p xmp"), Configs: []impl.Config{{}, c}})
+	}
+	for i, h := range houses {
+		houses[i] = houseWithRoom(h)
+	}
+	return houses
+}
+
+// manyRuns are right and wrong calls, one behind the other, with room behind their lists' ends.
+func manyRuns() [][]impl.Call {
+	runs := [][]impl.Call{nil, callsOn(0), callsOn(5), noCalls(), make([]impl.Call, impl.MaxCalls+1), make([]impl.Call, impl.MaxList+1)}
+	for _, c := range noCalls() {
+		runs = append(runs, []impl.Call{creating(0, "p"), c})
+	}
+	for i := range 120 {
+		g := newGrower(int64(3000+i), 0)
+		h := impl.House{Configs: fourConfigs(i)}
+		var calls []impl.Call
+		for range 1 + i%impl.MaxCalls {
+			calls = append(calls, g.anyCall(h))
+			h, _, _ = doneBy(h, calls[len(calls)-1])
+		}
+		runs = append(runs, calls)
+	}
+	for i, calls := range runs {
+		runs[i] = callsWithRoom(calls)
+	}
+	return runs
+}
+
+// manyDocCalls take each house with some of the calls, and each run with the configurations of one.
+func manyDocCalls(houses []impl.House, runs [][]impl.Call) []call {
+	var calls []call
+	for i, h := range houses {
+		calls = append(calls,
+			func() []any { return answers(impl.HouseOK(h)) },
+			func() []any { return answers(impl.SameHouse(h, houses[i/2])) },
+			func() []any { return answers(impl.SameHouse(houses[i], h)) },
+			func() []any { return answers(impl.NewHouse(h.Configs)) },
+		)
+		run := runs[i%len(runs)]
+		for _, c := range slices.Concat(callsOn(i%3), run[:min(len(run), 4)]) {
+			calls = append(calls, func() []any { return answers(impl.DoCall(h, c)) })
+		}
+	}
+	for i, run := range runs {
+		for k := range 3 {
+			h := houses[(i*3+k)%len(houses)]
+			calls = append(calls, func() []any { return answers(impl.RunCalls(h.Configs, run)) })
+		}
+		calls = append(calls,
+			func() []any { return answers(impl.RunCalls(fourConfigs(i), run)) },
+			func() []any { return answers(impl.SafeDocs(run)) },
+		)
+		for _, c := range run[:min(len(run), impl.MaxCalls)] {
+			calls = append(calls, func() []any { return answers(impl.CallOK(c)) })
+		}
+	}
+	return calls
+}
+
 // TestAnswersHangOnArgumentsAlone fails, too, if a call panics.
 func TestAnswersHangOnArgumentsAlone(t *testing.T) {
 	texts := manyTexts()
@@ -370,6 +438,37 @@ func TestAnswersOfEditsHangOnArgumentsAlone(t *testing.T) {
 	for i, e := range edits {
 		if e.shown() != editsBefore[i] {
 			t.Errorf("a call changed what edit %d is given", i)
+		}
+	}
+}
+
+// TestAnswersOfDocsHangOnArgumentsAlone holds them against answers of copies, too, which have nil in the place of empty lists.
+func TestAnswersOfDocsHangOnArgumentsAlone(t *testing.T) {
+	houses, runs := manyHouses(), manyRuns()
+	var copies []impl.House
+	var runCopies [][]impl.Call
+	var before []string
+	for _, h := range houses {
+		copies, before = append(copies, copiedHouse(h)), append(before, shownHouse(h))
+	}
+	for _, run := range runs {
+		run, before = clipped(run), append(before, shownCalls(run))
+		for i, c := range run {
+			run[i].Path = clipped(c.Path)
+		}
+		runCopies = append(runCopies, run)
+	}
+	calls, again := manyDocCalls(houses, runs), manyDocCalls(copies, runCopies)
+	checkCallsStay(t, calls)
+	checkAlike(t, calls, again)
+	for i, h := range houses {
+		if shownHouse(h) != before[i] {
+			t.Errorf("a call changed house %d", i)
+		}
+	}
+	for i, run := range runs {
+		if shownCalls(run) != before[len(houses)+i] {
+			t.Errorf("a call changed run %d", i)
 		}
 	}
 }

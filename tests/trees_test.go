@@ -410,17 +410,15 @@ func TestTreesAnsweredAreNewMemory(t *testing.T) {
 
 func noListsShared(t *testing.T, nodes []impl.Node) {
 	t.Helper()
-	var lists []reflect.Value
-	var noteAll func(nodes []impl.Node)
-	noteAll = func(nodes []impl.Node) {
-		lists = append(lists, reflect.ValueOf(nodes))
-		for _, x := range nodes {
-			lists = append(lists, reflect.ValueOf(x.Attrs))
-			noteAll(x.Kids)
-		}
+	checkApart(t, listsOfTree(nodes))
+}
+
+func listsOfTree(nodes []impl.Node) []reflect.Value {
+	lists := []reflect.Value{reflect.ValueOf(nodes)}
+	for _, x := range nodes {
+		lists = append(append(lists, reflect.ValueOf(x.Attrs)), listsOfTree(x.Kids)...)
 	}
-	noteAll(nodes)
-	checkApart(t, lists)
+	return lists
 }
 
 // checkApart holds that no two lists share memory, behind their ends either.
