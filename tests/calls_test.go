@@ -226,6 +226,33 @@ func manySanitizeCalls(trees [][]impl.Node, texts []string, configs []impl.Confi
 	return calls
 }
 
+// manyWatchCalls take each tree by some of the configurations, and beside some of the other trees.
+func manyWatchCalls(trees [][]impl.Node, texts []string, configs []impl.Config) []call {
+	var calls []call
+	for i, x := range trees {
+		calls = append(calls, func() []any { return answers(impl.Flatten(x)) })
+		for _, k := range []int{math.MinInt, -1, 0, 1, 2, impl.MaxDepth, impl.MaxDepth + 1, math.MaxInt} {
+			calls = append(calls, func() []any { return answers(impl.SafeTimes(x, k)) })
+		}
+		for _, c := range []impl.Config{configs[i%len(configs)], configs[(i*7+i/len(configs))%len(configs)], impl.DefaultConfig()} {
+			calls = append(calls,
+				func() []any { return answers(impl.SanitizedTwice(x, c)) },
+				func() []any { return answers(impl.Survivors(x, c)) },
+			)
+		}
+		for _, other := range [][]impl.Node{x, trees[i/2], trees[len(trees)-1-i], x[:len(x)/2]} {
+			calls = append(calls,
+				func() []any { return answers(impl.PartOf(x, other)) },
+				func() []any { return answers(impl.PartOf(other, x)) },
+			)
+		}
+	}
+	for _, s := range texts {
+		calls = append(calls, func() []any { return answers(impl.BuiltAgain(s)) })
+	}
+	return calls
+}
+
 // manyEdits are right and wrong ones, with room behind their lists' ends.
 func manyEdits() []edit {
 	var edits []edit
@@ -385,6 +412,17 @@ func TestAnswersOfConfigsHangOnArgumentsAlone(t *testing.T) {
 
 // TestAnswersOfSanitizingHangOnArgumentsAlone holds them against answers of copies, too, which have nil in the place of empty lists.
 func TestAnswersOfSanitizingHangOnArgumentsAlone(t *testing.T) {
+	checkSanitizingStays(t, manySanitizeCalls)
+}
+
+// TestAnswersOfWatchingHangOnArgumentsAlone does likewise.
+func TestAnswersOfWatchingHangOnArgumentsAlone(t *testing.T) {
+	checkSanitizingStays(t, manyWatchCalls)
+}
+
+// checkSanitizingStays makes calls of trees, texts and configurations.
+func checkSanitizingStays(t *testing.T, calling func(trees [][]impl.Node, texts []string, configs []impl.Config) []call) {
+	t.Helper()
 	trees, configs, texts := manyTrees(), manyConfigs(), append(manyTexts(), harmTexts()...)
 	for _, x := range append(dressedTrees(200), mutantTrees(200)...) {
 		trees = append(trees, withRoom(x))
@@ -399,7 +437,7 @@ func TestAnswersOfSanitizingHangOnArgumentsAlone(t *testing.T) {
 		before = append(before, wholeConfig(c))
 	}
 	treesBefore := shown(trees)
-	calls, again := manySanitizeCalls(trees, texts, configs), manySanitizeCalls(treeCopies, texts, copies)
+	calls, again := calling(trees, texts, configs), calling(treeCopies, texts, copies)
 	checkCallsStay(t, calls)
 	checkAlike(t, calls, again)
 	if !slices.Equal(shown(trees), treesBefore) {
